@@ -1,0 +1,1 @@
+"""A station's clock: between what the time is, and one time that never goes back."""
