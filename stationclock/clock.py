@@ -1,8 +1,8 @@
 """The calls on a station's clock, and the list of calls that is answered."""
 
 from stationclock.reckoning import BILLION, Reference, Tick, within
-from stationclock.reckoning import agrees, greatest_time, least_time, rate_by
-from stationclock.reckoning import brought_nearer, told_at_first, told_time
+from stationclock.reckoning import agrees, greatest_time, least_time, least_and_greatest_rate, rate_by
+from stationclock.reckoning import brought_nearer, first_counter_telling, told_at_first, told_time
 
 OUT_OF_RANGE = -1
 NOTHING_THERE = -2
@@ -23,27 +23,34 @@ ENOUGH_TO_BELIEVE = 3
 BEGIN = 0
 REFER = 1
 NOW = 2
+LOOK = 3
+RATE = 4
+WHEN = 5
+REFS = 6
 
-# How many whole numbers stand behind a call's number; the one without a name above is look.
-NUMBERS_OF_CALL = {0: 3, 1: 3, 2: 1, 3: 1}
+# How many whole numbers stand behind a call's number; the one without a name above is count.
+NUMBERS_OF_CALL = {0: 3, 1: 3, 2: 1, 3: 1, 4: 0, 5: 1, 6: 0, 7: 0}
 
 
 class Station:
     def __init__(self):
-        self.tick = None
+        self.start_with(None)
+
+    # A begin starts over as if nothing had been before it, so what was counted is gone too.
+    def start_with(self, tick):
+        self.tick = tick
         self.seen = 0
         self.kept = []
         self.doubted = []
         self.told = None
+        self.times_taken = 0
+        self.times_doubted = 0
+        self.times_believed = 0
 
     def begin(self, num, den, ppm):
         if not within(num, 1, BILLION) or not within(den, 1, BILLION) or not within(ppm, 0, MOST_PPM):
             return [OUT_OF_RANGE]
-        self.tick = Tick(num, den, ppm)
-        self.seen = 0
-        self.kept = []
-        self.doubted = []
-        self.told = None
+        self.start_with(Tick(num, den, ppm))
         return [0]
 
     def refer(self, c, t, u):
@@ -56,11 +63,14 @@ class Station:
         reference = Reference(c, t, u)
         if agrees(self.tick, reference, self.kept):
             self.keep(self.kept + [reference], c)
+            self.times_taken += 1
             return [TAKEN]
         self.doubt(reference)
         if len(self.doubted) < ENOUGH_TO_BELIEVE:
+            self.times_doubted += 1
             return [DOUBTED]
         self.keep(self.doubted, c)
+        self.times_believed += 1
         return [BELIEVED]
 
     def now(self, c):
@@ -81,6 +91,28 @@ class Station:
         least = least_time(self.tick, self.kept, c)
         greatest = greatest_time(self.tick, self.kept, c)
         return [0, least, greatest, told_time(self.tick, self.told, c)]
+
+    def rate(self):
+        if len(self.kept) == 0:
+            return [NOTHING_THERE]
+        both = least_and_greatest_rate(self.tick, self.kept)
+        return [0, both[0], both[1], rate_by(self.tick, self.kept)]
+
+    def when(self, t):
+        if not within(t, 0, MOST_TIME):
+            return [OUT_OF_RANGE]
+        if self.told is None:
+            return [NOTHING_THERE]
+        return [0, max(self.seen, first_counter_telling(self.tick, self.told, t))]
+
+    def refs(self):
+        answer = [len(self.kept)]
+        for reference in self.kept:
+            answer.extend([reference.counter, reference.time, reference.off])
+        return answer
+
+    def counts(self):
+        return [0, self.times_taken, self.times_doubted, self.times_believed, len(self.doubted), self.seen]
 
     def refusal_of_counter(self, c):
         if not within(c, 0, MOST_COUNTER):
@@ -115,7 +147,15 @@ def answer_to(station, call, numbers):
         return station.refer(numbers[0], numbers[1], numbers[2])
     if call == NOW:
         return station.now(numbers[0])
-    return station.look(numbers[0])
+    if call == LOOK:
+        return station.look(numbers[0])
+    if call == RATE:
+        return station.rate()
+    if call == WHEN:
+        return station.when(numbers[0])
+    if call == REFS:
+        return station.refs()
+    return station.counts()
 
 
 def answers(calls):

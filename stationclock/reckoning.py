@@ -92,11 +92,18 @@ def parts_in_microsecond(tick):
     return tick.den * BILLION
 
 
+def nearing_step(tick, told):
+    return tick.num * (BILLION + told.base + told.more)
+
+
+def later_step(tick, told):
+    return tick.num * (BILLION + told.base)
+
+
 def told_value(tick, told, c):
     nearing = min(c, told.till) - told.counter
     behind = max(c - told.till, 0)
-    steps = nearing * (BILLION + told.base + told.more) + behind * (BILLION + told.base)
-    return told.value + tick.num * steps
+    return told.value + nearing * nearing_step(tick, told) + behind * later_step(tick, told)
 
 
 def told_time(tick, told, c):
@@ -112,3 +119,13 @@ def brought_nearer(tick, told, c, t, base):
     more = cut_to(missing * 1000 // NEARING_SECONDS, -MOST_MORE, MOST_MORE)
     till = c + quotient_up(NEARING_SECONDS * MILLION * tick.den, tick.num)
     return Told(c, told_value(tick, told, c), base, more, till)
+
+
+# Both steps are above 0, since ppm and more are small beside a billion: the told time gets to every t,
+# and the rounding up gives the least counter. It may lie below the one that the told time goes from.
+def first_counter_telling(tick, told, t):
+    wanted = t * parts_in_microsecond(tick)
+    at_till = told_value(tick, told, told.till)
+    if wanted <= at_till:
+        return told.counter + quotient_up(wanted - told.value, nearing_step(tick, told))
+    return told.till + quotient_up(wanted - at_till, later_step(tick, told))

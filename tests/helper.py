@@ -32,6 +32,22 @@ def look(c):
     return [3, c]
 
 
+def rate():
+    return [4]
+
+
+def when(t):
+    return [5, t]
+
+
+def refs():
+    return [6]
+
+
+def count():
+    return [7]
+
+
 def one_list(calls):
     return [number for call in calls for number in call]
 

@@ -1,9 +1,8 @@
 import unittest
 
-from stationclock.clock import Station
 from tests.helper import (
-    BELIEVED, BILLION, DOUBTED, NOTHING_THERE, OUT_OF_RANGE, OUT_OF_TURN, TAKEN, TWO_62, TWO_64,
-    answers_of, begin, last_answer, look, now, refer,
+    BILLION, DOUBTED, NOTHING_THERE, OUT_OF_RANGE, OUT_OF_TURN, TAKEN, TWO_62, TWO_64,
+    answers_of, begin, count, last_answer, look, now, rate, refer, refs, when,
 )
 
 WRONG_BEGINS = [
@@ -37,11 +36,15 @@ class BeginEdges(unittest.TestCase):
 
 class BeforeBegin(unittest.TestCase):
     def test_all_others_are_refused(self):
-        for call in [refer(0, 0), now(0), look(0), refer(TWO_62 + 1, -1), now(TWO_62 + 1), look(TWO_62 + 1)]:
+        for call in [
+            refer(0, 0), now(0), look(0), refer(TWO_62 + 1, -1), now(TWO_62 + 1), look(TWO_62 + 1),
+            rate(), when(0), when(-1), when(TWO_62 + 1), refs(), count(),
+        ]:
             with self.subTest(call=call):
                 self.assertEqual(answers_of(call), [OUT_OF_TURN])
                 self.assertEqual(answers_of(begin(num=0), call), [OUT_OF_RANGE, OUT_OF_TURN])
                 self.assertEqual(answers_of(call, begin(), now(0)), [OUT_OF_TURN, [0], NOTHING_THERE])
+                self.assertEqual(answers_of(call, begin(), refs(), count())[2:], [[0], [0] * 6])
 
 
 class BeginAgain(unittest.TestCase):
@@ -49,13 +52,13 @@ class BeginAgain(unittest.TestCase):
 
     def test_nothing_is_left_from_before(self):
         self.assertEqual(answers_of(*self.before), [[0], TAKEN, DOUBTED, DOUBTED, [0, 1100]])
-        after = [begin(2), now(0), look(0), now(200), look(200)]
-        self.assertEqual(answers_of(*self.before, *after)[5:], [[0]] + [NOTHING_THERE] * 4)
+        after = [begin(2), now(0), look(0), now(200), look(200), rate(), when(0), refs(), count()]
+        self.assertEqual(answers_of(*self.before, *after)[5:], [[0]] + [NOTHING_THERE] * 6 + [[0], [0] * 6])
 
     def test_begins_like_a_new_one(self):
         after = [
             begin(2, 3, 50), refer(5, 77, 3), now(5), look(6), now(7),
-            refer(8, 9000, 1), refer(9, 9000, 1), now(TWO_62), look(TWO_62),
+            refer(8, 9000, 1), refer(9, 9000, 1), now(TWO_62), look(TWO_62), rate(), when(TWO_62), refs(), count(),
         ]
         self.assertEqual(answers_of(*self.before, *after)[5:], answers_of(*after))
         self.assertEqual(answers_of(*after)[:4], [[0], TAKEN, [0, 77], [0, 74, 81, 77]])
@@ -64,30 +67,11 @@ class BeginAgain(unittest.TestCase):
         self.assertEqual(answers_of(*self.before, begin(), refer(0, 40), now(1))[5:], [[0], TAKEN, [0, 41]])
 
     def test_none_is_doubted(self):
-        station = Station()
-        station.begin(1, 1, 0)
-        station.refer(0, 1000, 0)
-        station.refer(0, 5000, 0)
-        self.assertEqual(len(station.doubted), 1)
-        station.begin(1, 1, 0)
-        self.assertEqual(station.doubted, [])
-
-
-class RefusedBegin(unittest.TestCase):
-    line = [
-        begin(3, 2, 100), refer(10, 1000, 10), now(11), look(13),
-        refer(20, 90000, 5), refer(21, 90001, 5), now(22), refer(23, 90004, 5),
-        now(24), look(1000), now(23), refer(23, 0), now(99999),
-    ]
-
-    def test_changes_nothing(self):
-        plain = answers_of(*self.line)
-        self.assertIn(BELIEVED, plain)
-        for wrong in WRONG_BEGINS:
-            for place in range(1, len(self.line) + 1):
-                with self.subTest(wrong=wrong, place=place):
-                    found = answers_of(*self.line[:place], wrong, *self.line[place:])
-                    self.assertEqual(found, plain[:place] + [OUT_OF_RANGE] + plain[place:])
+        self.assertEqual(last_answer(*self.before, count())[4], 2)
+        self.assertEqual(last_answer(*self.before, begin(), count())[4], 0)
+        # With one left from before, two more would be believed.
+        after = [begin(), refer(0, 1000), refer(0, 5000), refer(0, 5000), refer(0, 5000), count()]
+        self.assertEqual(answers_of(*self.before, *after)[6:], [TAKEN, DOUBTED, DOUBTED, [2], [0, 1, 2, 1, 0, 0]])
 
 
 if __name__ == "__main__":

@@ -1,15 +1,20 @@
 import unittest
 
 import stationclock.clock
-from tests.helper import begin, look, now, one_list, refer
+from tests.helper import begin, count, look, now, one_list, rate, refer, refs, when
 
 LINE = [
     begin(3, 2, 100), refer(10, 1000, 10), now(11), look(12), begin(0), now(3), refer(12, 7000, 0),
-    refer(13, 7001, 1), refer(13, 7002, 2), look(20), begin(), now(0), look(0), refer(0, -1), refer(1, 5, 2), look(2),
+    refer(13, 7001, 1), count(), refer(13, 7002, 2), look(20), rate(), when(1010), refs(), count(),
+    begin(), now(0), look(0), rate(), when(5), when(-1), refs(), count(),
+    refer(0, -1), refer(1, 5, 2), look(2), refs(),
 ]
 ANSWERED = [
     1, 0, 1, 0, 2, 0, 1001, 4, 0, 992, 1014, 1003, 1, -1, 1, -4, 1, 1,
-    1, 1, 1, 2, 4, 0, 7011, 7013, 1015, 1, 0, 1, -2, 1, -2, 1, -1, 1, 0, 4, 0, 4, 8, 6,
+    1, 1, 6, 0, 1, 2, 0, 2, 13, 1, 2, 4, 0, 7011, 7013, 1015,
+    4, 0, -100000, 100000, 0, 2, 0, 17, 10, 3, 12, 7000, 0, 13, 7001, 1, 13, 7002, 2, 6, 0, 1, 2, 1, 0, 13,
+    1, 0, 1, -2, 1, -2, 1, -2, 1, -2, 1, -1, 1, 0, 6, 0, 0, 0, 0, 0, 0,
+    1, -1, 1, 0, 4, 0, 4, 8, 6, 4, 1, 1, 5, 2,
 ]
 
 
@@ -57,6 +62,11 @@ class Interface(unittest.TestCase):
     def test_a_line_of_two_thousand_calls(self):
         line = [begin(7, 3, 10000)] + [refer(k, 10 ** 6 + 7 * k // 3, 10) for k in range(1, 2000)]
         self.assertEqual(stationclock.clock.answers(one_list(line)), [1, 0] * 2000)
+
+    def test_two_thousand_calls_that_answer_much(self):
+        line = [begin()] + [refer(k, 1000 + k, 1) for k in range(16)] + [refs()] * 1983
+        kept = [number for k in range(16) for number in (k, 1000 + k, 1)]
+        self.assertEqual(stationclock.clock.answers(one_list(line)), [1, 0] * 17 + ([49, 16] + kept) * 1983)
 
 
 if __name__ == "__main__":

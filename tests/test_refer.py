@@ -1,9 +1,8 @@
 import unittest
 
-from stationclock.clock import Station
 from tests.helper import (
     BELIEVED, DOUBTED, OUT_OF_RANGE, OUT_OF_TURN, TAKEN, TWO_40, TWO_62, TWO_63, TWO_64,
-    answers_of, begin, last_answer, look, now, refer,
+    answers_of, begin, count, last_answer, look, now, refer,
 )
 
 
@@ -38,25 +37,6 @@ class Refusals(unittest.TestCase):
         for call in [refer(99, -1), refer(99, TWO_62 + 1), refer(99, 999, TWO_40 + 1)]:
             with self.subTest(call=call):
                 self.assertEqual(last_answer(*line, call), OUT_OF_RANGE)
-
-    def test_a_refusal_changes_nothing(self):
-        line = [
-            begin(3, 2, 100), refer(10, 1000, 10), now(11), refer(20, 90000, 5), refer(21, 90001, 5),
-            look(21), refer(23, 90004, 5), now(24), look(1000), refer(25, 0), now(99999),
-        ]
-        plain = answers_of(*line)
-        for wrong in [
-            refer(TWO_62 + 1, 90001, 5), refer(10 ** 6, -1, 5),
-            refer(10 ** 6, TWO_62 + 1), refer(10 ** 6, 9, TWO_40 + 1),
-        ]:
-            for place in range(1, len(line) + 1):
-                with self.subTest(wrong=wrong, place=place):
-                    found = answers_of(*line[:place], wrong, *line[place:])
-                    self.assertEqual(found, plain[:place] + [OUT_OF_RANGE] + plain[place:])
-        for place in range(2, len(line) + 1):
-            with self.subTest(place=place):
-                found = answers_of(*line[:place], refer(9, 90001, 5), *line[place:])
-                self.assertEqual(found, plain[:place] + [OUT_OF_TURN] + plain[place:])
 
 
 class Agreeing(unittest.TestCase):
@@ -146,18 +126,11 @@ class Doubting(unittest.TestCase):
         self.assertEqual(found[6][:3], [0, 9015, 9025])
 
     def test_none_is_doubted_behind_taken_and_believed(self):
-        station = Station()
-        station.begin(1, 1, 0)
-        station.refer(0, 1000, 10)
-        for t in [5000, 5000]:
-            self.assertEqual(station.refer(0, t, 0), DOUBTED)
-        self.assertEqual(len(station.doubted), 2)
-        self.assertEqual(station.refer(0, 5000, 0), BELIEVED)
-        self.assertEqual(station.doubted, [])
-        self.assertEqual(len(station.kept), 3)
-        self.assertEqual(station.refer(0, 0, 0), DOUBTED)
-        self.assertEqual(station.refer(0, 5000, 0), TAKEN)
-        self.assertEqual(station.doubted, [])
+        line = [refer(0, 5000)] * 3 + [refer(0, 0), refer(0, 5000)]
+        watched = [call for each in line for call in (each, count())]
+        found = self.answers_behind_start(*watched)
+        self.assertEqual(found[::2], [DOUBTED, DOUBTED, BELIEVED, DOUBTED, TAKEN])
+        self.assertEqual([answer[4] for answer in found[1::2]], [1, 2, 0, 1, 0])
 
     def test_doubted_leaves_kept_and_told_as_they_are(self):
         found = self.answers_behind_start(refer(10, 5000, 5), look(10), now(20))
